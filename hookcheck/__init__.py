@@ -1,0 +1,1 @@
+"""Hookcheck: admission hooks on documents, decided for all documents and all schedules."""
