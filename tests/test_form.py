@@ -19,6 +19,10 @@ INTERFACE = {
     "printer": ["show_rule(rule)", "show_claim(claim)", "show_hooks(hooks)"],
     "conditions": ["entries(document, collection)", "holds(condition, document, *, entry=None)",
                    "alternatives(condition)", "breaches(claim, document)"],
+    "calls": ["apply_rule(rule, document)", "call_hook(hook, document)", "replayed(document, effects)"],
+    "plans": ["call_unit(hooks, unit, document)", "run(hooks, plan, document)", "outcome(hooks, plan, document)"],
+    "origins": ["origin_of(log, path)", "origins(hooks, plan, document)"],
+    "pools": ["passes(test, scalar)", "alike(tests, first, second)", "pool_of(tests, many)"],
 }
 CALLED = set(  # L8
     "len range enumerate zip min max sum abs sorted reversed int str bool list tuple dict set isinstance ord repr any "
