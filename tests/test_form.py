@@ -23,6 +23,11 @@ INTERFACE = {
     "plans": ["call_unit(hooks, unit, document)", "run(hooks, plan, document)", "outcome(hooks, plan, document)"],
     "origins": ["origin_of(log, path)", "origins(hooks, plan, document)"],
     "pools": ["passes(test, scalar)", "alike(tests, first, second)", "pool_of(tests, many)"],
+    "scopes": ["scope_of(rules)", "count_samples(scope)"],
+    "parts": ["unnamed_entries(scope, document)", "misfit(scope, document)", "parts(scope, document)",
+              "joined(scope, parts)"],
+    "samples": ["each_sample(scope)", "is_sample(scope, document)", "samples_of(scope, document, *, apart=None)",
+                "first_with(scope, samples)"],
 }
 CALLED = set(  # L8
     "len range enumerate zip min max sum abs sorted reversed int str bool list tuple dict set isinstance ord repr any "

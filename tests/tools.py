@@ -3,11 +3,16 @@
 import itertools
 import random
 
-from hookcheck.documents import compare_documents, nodes
-from hookcheck.errors import HookcheckError
+from hookcheck.documents import compare_documents, nodes, with_scalar
+from hookcheck.errors import HookcheckError, ScopeError
 from hookcheck.reader import read_hooks, read_rule
+from hookcheck.scopes import scope_of
 
-ABSENT = "absent"
+SCOPE_PATHS = [("p",), ("q",), ("p", "a"), ("p", "a", "x"), ("q", "b"), ("r", "p"), ("r", "p", "m"), ("r",)]
+SCOPE_COLLECTIONS = [("p",), ("p",), ("r", "p"), ("q",)]
+SCOPE_INNER = [(), ("x",), ("y",), ("x", "y")]
+VALUES = (None, True, False, 0, 1, 5, 6, "t", "u", "")
+KEYS = ("a", "b", "m", "p", "q", "r", "x", "y", "aa")
 
 
 def value(told):
@@ -136,3 +141,29 @@ class Dice:
         many = self.dice.randint(1, most)
         actions = tuple([self.action(targets, places, literals, rejects) for _ in range(many)])
         return (collection, condition, actions)
+
+
+def random_scope(dice, many=4):
+    """Random rules that have a scope, and the scope."""
+    while True:
+        things = (SCOPE_PATHS, SCOPE_COLLECTIONS, SCOPE_INNER)
+        some = [dice.dice.sample(one, dice.dice.randint(1, 4)) for one in things]
+        rules = tuple([
+            dice.rule(some[0], some[1] + [None], some[2], (True, 0, 5, "t"), 0.05, 3)
+            for _ in range(dice.dice.randint(1, many))
+        ])
+        try:
+            return rules, scope_of(rules)
+        except ScopeError:
+            continue
+
+
+def crowded(dice, scope):
+    """A random document, often with several unnamed entries of each collection."""
+    document = dice.document(KEYS, 4, VALUES, 0.4)
+    for collection, _, _ in scope[0]:
+        for key in ("b", "c", "d", "ab"):
+            if dice.chance(0.6):
+                inner = dice.one(((), ("x",), ("y",), ("x", "y"), ("z",)))
+                document = with_scalar(document, collection + (key,) + inner, value(dice.one(VALUES)))
+    return document
