@@ -35,7 +35,7 @@ def pool_by_words(tests, many, scalars):
 
 class PassesTest(unittest.TestCase):
     def test_equal(self):
-        for literal in (True, False, 0, 1, -1, 5, "1", "true", "5"):
+        for literal in (None, True, False, 0, 1, -1, 5, "1", "true", "5"):
             for scalar in SCALARS:
                 self.assertIs(passes(equal(literal), scalar), scalar == value(literal), (literal, scalar))
 
@@ -96,6 +96,7 @@ class PoolTest(unittest.TestCase):
         self.check((equal(True),), [None, True], [None, False, True])
         self.check((equal(False),), [None, False], [None, False, True])
         self.check((equal("x"),), [None, "x"], [None, False, "x"])
+        self.check((equal(None),), [None, False], [None, False, True])
         self.check((("<", 0),), [None, -1], [None, False, -1, -2])
         self.check((("<", 5),), [None, 0], [None, False, 0, 1])
         self.check((("<", 1),), [None, 0], [None, False, 0, -1])
