@@ -1,7 +1,7 @@
 """Documents that fit a scope, and their parts with at most one unnamed entry."""
 
 from hookcheck.documents import RECORD, document_of, held, keys_below, nodes, without
-from hookcheck.errors import NotParts
+from hookcheck.errors import Misfit, NotParts
 
 
 def unnamed_entries(scope, document):
@@ -26,6 +26,13 @@ def misfit(scope, document):
         if found is None:
             found = misfit_among(entry_slots[number], entry, document)
     return found
+
+
+def refuse_misfit(scope, document):
+    """Raise Misfit for the first misfit of the document."""
+    wrong = misfit(scope, document)
+    if wrong is not None:
+        raise Misfit(wrong[0], wrong[1])
 
 
 def misfit_among(slots, start, document):

@@ -1,8 +1,8 @@
 """Samples: finitely many documents that stand for all documents that fit a scope."""
 
 from hookcheck.documents import RECORD, content_rank, document_of, document_rank, held, keys_below, nodes, without
-from hookcheck.errors import Misfit, NotSamples
-from hookcheck.parts import misfit, numbered_entries, parts
+from hookcheck.errors import NotSamples
+from hookcheck.parts import numbered_entries, parts, refuse_misfit
 from hookcheck.paths import FIRST_SIGNS, KEY_SIGNS, covers
 from hookcheck.pools import alike
 from hookcheck.scopes import slots_below
@@ -69,9 +69,7 @@ def may_show(slot, content):
 
 def samples_of(scope, document, *, apart=None):
     """Return the samples of the parts of the document, apart by two scalars if they are passed."""
-    wrong = misfit(scope, document)
-    if wrong is not None:
-        raise Misfit(wrong[0], wrong[1])
+    refuse_misfit(scope, document)
     return tuple([sample_of_part(scope, part, apart) for part in parts(scope, document)])
 
 

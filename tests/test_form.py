@@ -28,6 +28,18 @@ INTERFACE = {
               "joined(scope, parts)"],
     "samples": ["each_sample(scope)", "is_sample(scope, document)", "samples_of(scope, document, *, apart=None)",
                 "first_with(scope, samples)"],
+    "questions": ["compare_plans(hook_set, plan, other_set, other_plan)",
+                  "list_differences(hook_set, plan, other_set, other_plan, many)",
+                  "find_violation(hook_set, plan, claim)", "count_passes(hook_set, plan)",
+                  "first_acts(hook_set, plan)", "find_idle(hook_set, plan)"],
+    "tables": ["call_table(hook_set, units)", "outcome_row(hook_set, plan)", "numbers_of(hook_set, document)"],
+    "graphs": ["ends_from(table, state)", "table_conflict(table)", "table_fight(table)", "heights(table)",
+               "takes_ranks(table, ranks)", "end_marks(table)", "takes_marks(table, marks)"],
+}
+CLASSES = {  # The file of each class, how it is made, its properties and its methods.
+    "HookSet": ("hooks", "(hooks)", ["hooks", "names", "rules", "scope", "samples"],
+                ["hook(self, name)", "check(self, document)", "run(self, plan, document)", "__len__(self)",
+                 "__iter__(self)", "__contains__(self, name)"]),
 }
 CALLED = set(  # L8
     "len range enumerate zip min max sum abs sorted reversed int str bool list tuple dict set isinstance ord repr any "
@@ -157,6 +169,18 @@ class InterfaceTest(unittest.TestCase):
             for told in functions:
                 function = getattr(module, told.partition("(")[0])
                 self.assertEqual(function.__module__, f"hookcheck.{file}")
+                self.assertEqual(function.__name__ + str(inspect.signature(function)), told)
+
+    def test_classes_have_their_methods_themselves(self):
+        for name, (file, made, properties, methods) in CLASSES.items():
+            module = __import__(f"hookcheck.{file}", fromlist=["hookcheck"])
+            own = getattr(module, name)
+            self.assertEqual((own.__module__, str(inspect.signature(own))), (f"hookcheck.{file}", made))
+            for told in properties:
+                self.assertIsInstance(vars(own)[told], property)
+            for told in methods:
+                method = vars(own)[told.partition("(")[0]]
+                function = method.__func__ if isinstance(method, classmethod) else method
                 self.assertEqual(function.__name__ + str(inspect.signature(function)), told)
 
     def test_errors_stand_in_their_file(self):

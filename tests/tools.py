@@ -5,8 +5,10 @@ import random
 
 from hookcheck.documents import compare_documents, nodes, with_scalar
 from hookcheck.errors import HookcheckError, ScopeError
+from hookcheck.hooks import HookSet
+from hookcheck.plans import run
 from hookcheck.reader import read_hooks, read_rule
-from hookcheck.scopes import scope_of
+from hookcheck.scopes import count_samples, scope_of
 
 SCOPE_PATHS = [("p",), ("q",), ("p", "a"), ("p", "a", "x"), ("q", "b"), ("r", "p"), ("r", "p", "m"), ("r",)]
 SCOPE_COLLECTIONS = [("p",), ("p",), ("r", "p"), ("q",)]
@@ -167,3 +169,33 @@ def crowded(dice, scope):
                 inner = dice.one(((), ("x",), ("y",), ("x", "y"), ("z",)))
                 document = with_scalar(document, collection + (key,) + inner, value(dice.one(VALUES)))
     return document
+
+
+def random_hook_set(dice, most=60, many=4):
+    """A random hook set of one to four hooks, called a, b, c and d in any order, with at most so many samples."""
+    while True:
+        rules, scope = random_scope(dice, many)
+        names = dice.dice.sample("abcd", dice.dice.randint(1, 4))
+        owners = [dice.one(names) for _ in rules]
+        if count_samples(scope) <= most:
+            hooks = [(name, tuple([rule for rule, owner in zip(rules, owners) if owner == name])) for name in names]
+            try:
+                return HookSet(tuple(hooks))
+            except ScopeError:
+                continue
+
+
+def random_names(dice, names, most):
+    """So many of the names at most, in any order, perhaps some of them twice; none of no names."""
+    return tuple([dice.one(names) for _ in range(dice.dice.randint(0, most))]) if names else ()
+
+
+def random_plan(dice, names):
+    """A random plan with these names, often with passes."""
+    return (random_names(dice, names, 3), random_names(dice, names, 2), dice.dice.randint(0, 4))
+
+
+def is_effective(hooks, name, document):
+    """Whether the call of the hook rejects or has an effect."""
+    ended = run(hooks, ((name,), (), 0), document)
+    return ended[0] == "rejected" or ended[5] != ()
