@@ -67,15 +67,11 @@ class EndsTest(unittest.TestCase):
         self.assertEqual(ends_from(((1, "out"), ("out", None)), 0), (((1,), "out"),))
 
     def test_all_small_tables(self):
-        for rows, moves in ((1, 1), (1, 2), (2, 1), (2, 2), (3, 1)):
+        for rows, moves in itertools.product((1, 2, 3), (1, 2)):
             for table in all_tables(rows, moves):
                 for state in range(rows):
                     self.assertEqual(ends_from(table, state), ends_by_words(table, state), table)
                 self.check_all(table, True)
-
-    def test_tables_of_three_rows_and_two_moves(self):
-        for table in itertools.islice(all_tables(3, 2), 0, None, 7):
-            self.check_all(table, True)
 
     def test_drawn_tables(self):
         dice = Dice(162)
@@ -188,9 +184,9 @@ class RanksTest(unittest.TestCase):
         self.assertIs(takes_ranks(SELF, (1,)), False)
         self.assertIs(takes_ranks(SELF, (1000,)), False)
 
-    def test_all_ranks_of_all_small_tables(self):
-        for rows, moves in ((1, 1), (1, 2), (2, 1), (2, 2), (3, 1)):
-            for table in all_tables(rows, moves):
+    def test_all_ranks_of_small_tables(self):
+        for rows, moves in itertools.product((1, 2, 3), (1, 2)):
+            for table in itertools.islice(all_tables(rows, moves), 0, None, 37 if rows * moves > 4 else 1):
                 taken = []
                 for ranks in itertools.product(range(rows + 1), repeat=rows):
                     told = takes_ranks(table, ranks)
@@ -265,9 +261,9 @@ class MarksTest(unittest.TestCase):
         for marks in itertools.product(["open", "out", 0, 1, 2, 3], repeat=3):
             self.assertIs(takes_marks(table, marks), False)
 
-    def test_all_marks_of_all_small_tables(self):
-        for rows, moves in ((1, 1), (1, 2), (2, 1), (2, 2), (3, 1)):
-            for table in all_tables(rows, moves):
+    def test_all_marks_of_small_tables(self):
+        for rows, moves in itertools.product((1, 2, 3), (1, 2)):
+            for table in itertools.islice(all_tables(rows, moves), 0, None, 37 if rows * moves > 4 else 1):
                 found = False
                 for marks in itertools.product(["open", "out"] + list(range(rows + 1)), repeat=rows):
                     told = takes_marks(table, marks)
