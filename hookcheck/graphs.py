@@ -54,7 +54,7 @@ def table_fight(table):
 
 def heights(table):
     """Return for each state the number of moves of the longest schedules from it, or None if there is a fight."""
-    longest = tuple([0 for _ in table])
+    longest = (0,) * len(table)
     # A schedule that is longer than there are rows comes back to a state.
     for _ in range(len(table) + 1):
         longer = tuple([height_above(table, state, longest) for state in range(len(table))])

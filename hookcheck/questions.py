@@ -16,8 +16,9 @@ def list_differences(hook_set, plan, other_set, other_plan, many):
     """Return the first so many samples of the scope of both hook sets for which the two plans differ."""
     refuse_unknown(hook_set.hooks, plan[0] + plan[1])
     refuse_unknown(other_set.hooks, other_plan[0] + other_plan[1])
+    scope = scope_of(hook_set.rules + other_set.rules)
     found = []
-    for sample in each_sample(scope_of(hook_set.rules + other_set.rules)):
+    for sample in each_sample(scope):
         if len(found) == many:
             break
         if outcome(hook_set.hooks, plan, sample) != outcome(other_set.hooks, other_plan, sample):
@@ -29,7 +30,8 @@ def find_violation(hook_set, plan, claim):
     """Return the first document with which the plan violates the claim, or None."""
     refuse_unknown(hook_set.hooks, plan[0] + plan[1])
     collection, condition = claim
-    for sample in each_sample(scope_of(hook_set.rules + ((collection, condition, ()),))):
+    scope = scope_of(hook_set.rules + ((collection, condition, ()),))
+    for sample in each_sample(scope):
         end = outcome(hook_set.hooks, plan, sample)
         if end is not None and breaches(claim, end) != ():
             return sample

@@ -131,3 +131,69 @@ def random_table(dice, rows, moves, back=0.3):
             row.append(dice.one([None, None, "out" if dice.chance(0.1) else None, dice.one(near), dice.one(near)]))
         table.append(tuple(row))
     return tuple(table)
+
+
+def walk_by_words(table, plan, state):
+    """(status, state at the end, passes, calls); the calls of all passes are planned, and made as far as they go."""
+    first, again, limit = plan
+    planned = [(0, place) for place in first]
+    if again:
+        planned += [(number, place) for number in range(1, limit + 1) for place in again]
+    passes, effective = 0, False
+    for calls, (number, place) in enumerate(planned):
+        if number != passes:
+            if number > 1 and not effective:
+                return ("admitted", state, passes, calls)
+            passes, effective = number, False
+        move = table[state][place]
+        if move == "out":
+            return ("rejected", state, passes, calls + 1)
+        if move is not None:
+            state, effective = move, True
+    return ("unsettled" if passes and effective else "admitted", state, passes, len(planned))
+
+
+def round_by_words(table, state):
+    """The end of the round, or None after more passes than there can be different ones."""
+    for _ in range(len(table) + 2):
+        effective = False
+        for place in range(len(table[0])):
+            move = table[state][place]
+            if move == "out":
+                return "out"
+            if move is not None:
+                state, effective = move, True
+        if not effective:
+            return state
+    return None
+
+
+def tells_apart(table, first, second, places):
+    """Whether the tuple of places tells the two states apart."""
+    states = [first, second]
+    for number, place in enumerate(places):
+        moves = [table[state][place] for state in states]
+        kinds = [move if move in (None, "out") else "number" for move in moves]
+        if number == len(places) - 1:
+            return kinds[0] != kinds[1]
+        if kinds[0] != kinds[1] or kinds[0] == "out":
+            return False
+        states = [state if move is None else move for state, move in zip(states, moves)]
+    return False
+
+
+def tell_apart_by_words(table, first, second):
+    for many in range(1, len(table) + 1):
+        for places in itertools.product(range(len(table[0])), repeat=many):
+            if tells_apart(table, first, second, places):
+                return places
+    return None
+
+
+def classes_by_words(table):
+    """The numbers of the classes, found by all pairs."""
+    found = []
+    for state in range(len(table)):
+        alike = [other for other in range(state) if tell_apart_by_words(table, other, state) is None]
+        found.append(found[alike[0]] if alike else len(set(found)))
+    return tuple(found)

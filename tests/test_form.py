@@ -35,11 +35,21 @@ INTERFACE = {
     "tables": ["call_table(hook_set, units)", "outcome_row(hook_set, plan)", "numbers_of(hook_set, document)"],
     "graphs": ["ends_from(table, state)", "table_conflict(table)", "table_fight(table)", "heights(table)",
                "takes_ranks(table, ranks)", "end_marks(table)", "takes_marks(table, marks)"],
+    "walks": ["walk(table, plan, state)", "round_ends(table)", "tell_apart(table, first, second)", "classes(table)"],
+    "schedules": ["follow(hooks, units, document, schedule)", "find_conflict(hook_set, units)",
+                  "find_fight(hook_set, units)", "call_bound(hook_set, ranks, document)"],
+    "reductions": ["same_outcomes(hook_set, plan, other)", "least_set(hook_set, plan)",
+                   "shortest_calls(hook_set, plan, most)", "first_restless(hook_set, names, again, limit)",
+                   "call_again(hook_set, names, limit)"],
 }
 CLASSES = {  # The file of each class, how it is made, its properties and its methods.
     "HookSet": ("hooks", "(hooks)", ["hooks", "names", "rules", "scope", "samples"],
                 ["hook(self, name)", "check(self, document)", "run(self, plan, document)", "__len__(self)",
                  "__iter__(self)", "__contains__(self, name)"]),
+    "Desk": ("desks", "(hooks, plan)", ["hooks", "plan", "current", "claims", "hook_set", "log"],
+             ["put(self, hook, place)", "drop(self, name)", "move(self, name, place)", "use(self, plan)",
+              "require(self, claim)", "undo(self)", "rehearse(self, changes)", "replayed(cls, hooks, plan, log)",
+              "__len__(self)"]),
 }
 CALLED = set(  # L8
     "len range enumerate zip min max sum abs sorted reversed int str bool list tuple dict set isinstance ord repr any "
@@ -160,6 +170,23 @@ class FormTest(unittest.TestCase):
             for node in found:
                 if isinstance(node, ast.Call) and isinstance(node.func, ast.Attribute):
                     self.assertIn(node.func.attr, METHODS | own, path)
+
+
+    def test_names_of_methods_properties_and_attributes(self):
+        plain, decorated, attributes = set(), set(), set()
+        for _, _, found in trees():
+            for node in found:
+                if isinstance(node, ast.ClassDef):
+                    for one in node.body:
+                        if isinstance(one, ast.FunctionDef):
+                            (decorated if one.decorator_list else plain).add(one.name)
+                if isinstance(node, ast.Attribute) and isinstance(node.ctx, ast.Store):
+                    attributes.add(node.attr)
+        of_values = {name for one in (int, str, bytes, list, tuple, dict, set) for name in dir(one)}
+        own = {name for name in plain | decorated if not name.startswith("__")}
+        self.assertEqual(own & of_values, set())
+        self.assertEqual(decorated & (plain | attributes), set())
+        self.assertEqual(plain & attributes, set())
 
 
 class InterfaceTest(unittest.TestCase):

@@ -15,6 +15,14 @@ SCOPE_COLLECTIONS = [("p",), ("p",), ("r", "p"), ("q",)]
 SCOPE_INNER = [(), ("x",), ("y",), ("x", "y")]
 VALUES = (None, True, False, 0, 1, 5, 6, "t", "u", "")
 KEYS = ("a", "b", "m", "p", "q", "r", "x", "y", "aa")
+TEXTS = (
+    "when {0} = {2} then set {1} {3}", "when has {0} then remove {1}", "default {0} {2}", "default {0} from {1}",
+    "when {0} > {2} then reject no", "remove {0} and default {1} {2}", "when {0} = {2} and not has {1} then set {1} {3}",
+)
+EACH_TEXTS = (
+    "each b when @ = {2} then set @ {3}", "each b when @ = {2} and a = {3} then remove @", "each b default @ from a",
+    "each b when @ > {2} then reject no",
+)
 
 
 def value(told):
@@ -199,3 +207,14 @@ def is_effective(hooks, name, document):
     """Whether the call of the hook rejects or has an effect."""
     ended = run(hooks, ((name,), (), 0), document)
     return ended[0] == "rejected" or ended[5] != ()
+
+
+def contrary_hooks(dice, texts):
+    """A hook set of two to four hooks called f, g, h and i, of one rule each, about the keys a and b."""
+    while True:
+        hooks = {}
+        for name in "fghi"[:dice.dice.randint(2, 4)]:
+            keys = [dice.one("ab"), dice.one("ab")]
+            hooks[name] = dice.one(texts).format(*keys, dice.one("12"), dice.one("12"))
+        if error_of(HookSet, hooks_of(**hooks)) is None:
+            return HookSet(hooks_of(**hooks))
