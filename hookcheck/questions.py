@@ -75,7 +75,7 @@ def acting(ended):
 def numbered_rules(hook_set, plan):
     """Return the list of (hook, rule) of the rules of the plan."""
     called = plan[0] + plan[1]
-    return [(hook[0], number) for hook in hook_set if hook[0] in called for number in range(len(hook[1]))]
+    return [(hook[0], number) for hook in hook_set.hooks if hook[0] in called for number in range(len(hook[1]))]
 
 
 def find_idle(hook_set, plan):

@@ -30,7 +30,7 @@ def names_at(hook_set, places):
 
 
 def ends_of(table, plan):
-    """Return the list of the states in which the plan of the table admits the states, None where it does not."""
+    """Return for each state, in a list, its state at the end if the plan of the table admits it, otherwise None."""
     walks = [walk(table, plan, state) for state in range(len(table))]
     return [end if status == "admitted" else None for status, end, _, _ in walks]
 
@@ -76,7 +76,7 @@ def shortest_calls(hook_set, plan, most):
         for sequence in sequences:
             if ends_of(table, (sequence, (), 0)) == wanted:
                 return names_at(hook_set, sequence)
-        sequences = [sequence + (place,) for sequence in sequences for place in range(len(hook_set))]
+        sequences = [shorter + (place,) for shorter in sequences for place in range(len(hook_set))]
     return None
 
 
